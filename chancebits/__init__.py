@@ -1,0 +1,1 @@
+"""Bits written by their chances, and read back."""
