@@ -15,7 +15,7 @@ MOST_TREE_BITS = 12
 
 OPEN_CALL = 5
 # How many numbers a call has with its own number, without its row.
-CALL_LENGTHS = (2, 3, 3, 4, 2, 3)
+CALL_LENGTHS = (2, 3, 3, 4, 2, 3, 2, 2, 3, 2, 1)
 
 
 class Desk:
@@ -37,6 +37,14 @@ def is_chance_count(k):
     return 1 <= k <= MOST_CHANCES
 
 
+def is_chance(desk, c):
+    return 0 <= c < len(desk.coder.chances)
+
+
+def is_even_count(n):
+    return 0 <= n <= MOST_EVEN_BITS
+
+
 def is_tree(desk, c, n):
     """Whether a tree of n bits from chance c on lies within the chances."""
     if c < 0 or not 1 <= n <= MOST_TREE_BITS:
@@ -55,7 +63,7 @@ def answer_begin(desk, call):
 def answer_bit(desk, call):
     c = call[1]
     bit = call[2]
-    if not desk.writes() or not 0 <= c < len(desk.coder.chances) or not 0 <= bit <= 1:
+    if not desk.writes() or not is_chance(desk, c) or not 0 <= bit <= 1:
         return [REFUSED]
     return desk.tell([(c, bit)])
 
@@ -63,7 +71,7 @@ def answer_bit(desk, call):
 def answer_even(desk, call):
     x = call[1]
     n = call[2]
-    if not desk.writes() or not 0 <= x <= MOST_EVEN_NUMBER or not 0 <= n <= MOST_EVEN_BITS:
+    if not desk.writes() or not 0 <= x <= MOST_EVEN_NUMBER or not is_even_count(n):
         return [REFUSED]
     return desk.tell(even_steps(x, n))
 
@@ -98,8 +106,44 @@ def answer_open(desk, call):
     return [DONE]
 
 
+def answer_get(desk, call):
+    c = call[1]
+    if desk.writes() or not is_chance(desk, c):
+        return [REFUSED]
+    return [desk.coder.next_bit(c)]
+
+
+def answer_get_even(desk, call):
+    n = call[1]
+    if desk.writes() or not is_even_count(n):
+        return [REFUSED]
+    return [DONE, desk.coder.next_even(n)]
+
+
+def answer_get_tree(desk, call):
+    c = call[1]
+    n = call[2]
+    if desk.writes() or not is_tree(desk, c, n):
+        return [REFUSED]
+    return [desk.coder.next_tree(c, n)]
+
+
+def answer_chance(desk, call):
+    c = call[1]
+    if not is_chance(desk, c):
+        return [REFUSED]
+    return [desk.coder.chances[c]]
+
+
+def answer_left(desk, call):
+    if desk.writes():
+        return [REFUSED]
+    return [desk.coder.untaken()]
+
+
 # In the order of the calls' numbers.
-ANSWERERS = (answer_begin, answer_bit, answer_even, answer_tree, answer_finish, answer_open)
+ANSWERERS = (answer_begin, answer_bit, answer_even, answer_tree, answer_finish, answer_open,
+             answer_get, answer_get_even, answer_get_tree, answer_chance, answer_left)
 
 
 def end_of_call(calls, start):

@@ -28,3 +28,24 @@ def learned(chance, bit):
     if bit == 0:
         return chance + (SCALE - chance) // 32
     return chance - chance // 32
+
+
+class Coder:
+    """What the object has whether it writes or reads: its chances and the width that is left."""
+
+    def __init__(self, k):
+        self.chances = [FIRST_CHANCE] * k
+        self.width = FIRST_WIDTH
+
+    def chance_at(self, c):
+        """Chance c, or None where c is None: evenly."""
+        if c is None:
+            return None
+        return self.chances[c]
+
+    def narrow(self, c, bit):
+        """Leave the width behind the bit, before it grows, and let chance c learn from it."""
+        chance = self.chance_at(c)
+        self.width = width_behind(self.width, chance, bit)
+        if c is not None:
+            self.chances[c] = learned(chance, bit)

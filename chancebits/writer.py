@@ -1,6 +1,6 @@
 """The object while it writes."""
 
-from chancebits.parting import FIRST_CHANCE, FIRST_WIDTH, LEAST_WIDTH, learned, part_of, width_behind
+from chancebits.parting import LEAST_WIDTH, Coder, part_of, width_behind
 
 MOST_BYTES = 1048576
 LOWEST_BYTES = 4
@@ -24,7 +24,7 @@ def tree_steps(c, n, x):
     return steps
 
 
-class Writer:
+class Writer(Coder):
     """A number that grows to the right as bits are told.
 
     The number is kept as its higher bytes and its lowest four, so that a bit
@@ -32,16 +32,9 @@ class Writer:
     """
 
     def __init__(self, k):
-        self.chances = [FIRST_CHANCE] * k
-        self.width = FIRST_WIDTH
+        Coder.__init__(self, k)
         self.higher = []
         self.lowest = 0
-
-    def chance_at(self, c):
-        """Chance c, or None where c is None: evenly."""
-        if c is None:
-            return None
-        return self.chances[c]
 
     def tell(self, steps):
         """Tell all steps, pairs of a chance's number and a bit; or none, and False, if they don't fit."""
@@ -67,12 +60,9 @@ class Writer:
         return length
 
     def tell_step(self, c, bit):
-        chance = self.chance_at(c)
         if bit == 1:
-            self.skip(part_of(self.width, chance))
-        self.width = width_behind(self.width, chance, bit)
-        if c is not None:
-            self.chances[c] = learned(chance, bit)
+            self.skip(part_of(self.width, self.chance_at(c)))
+        self.narrow(c, bit)
         while self.width < LEAST_WIDTH:
             self.grow()
 

@@ -4,7 +4,9 @@ import copy
 import unittest
 
 from chancebits.desk import Desk, answer_begin, answer_bit, answer_even, answer_finish, answer_open, answer_tree
-from tests.words import Read, answered, begin, bit, even, finish, opening, tree, whole, written_by_words
+from tests.lines import Steps, written_line
+from tests.words import answered, answered_by_words, begin, bit, even, finish, getting, got_back, opening, tree
+from tests.words import whole, written_by_words
 
 FAR = (-2147483648, 2147483647)
 
@@ -189,47 +191,13 @@ class Together(Checks):
     def test_many_lines_of_mixed_calls(self):
         numbers = Steps(7)
         for turn in range(60):
-            calls = mixed_line(numbers)
+            calls = written_line(numbers)
             self.assert_read_back(calls, self.written(*calls))
 
     def assert_read_back(self, calls, given):
-        k = calls[0][1]
-        reading = Read(k, given)
-        for call in calls[1:]:
-            if call[0] == 1:
-                self.assertEqual(reading.bit(call[1]), call[2])
-            elif call[0] == 2:
-                self.assertEqual(reading.even(call[2]), call[1] % 2 ** call[2])
-            else:
-                self.assertEqual(reading.tree(call[1], call[2]), call[3])
-
-
-class Steps:
-    """Numbers that look mixed and are the same each time."""
-
-    def __init__(self, seed):
-        self.state = seed
-
-    def below(self, end):
-        self.state = (self.state * 6364136223846793005 + 1442695040888963407) % 2 ** 64
-        return (self.state >> 32) % end
-
-
-def mixed_line(numbers):
-    k = (1, 2, 40, 300, 4096)[numbers.below(5)]
-    slant = numbers.below(11)
-    calls = [begin(k)]
-    for turn in range(numbers.below(390)):
-        kind = numbers.below(3)
-        if kind == 0:
-            calls.append(bit(numbers.below(min(k, 5)), 1 if numbers.below(10) < slant else 0))
-        elif kind == 1:
-            calls.append(even(numbers.below(2 ** 32), numbers.below(33)))
-        else:
-            n = 1 + numbers.below((k + 1).bit_length() - 1 if k < 4096 else 12)
-            c = numbers.below(k - 2 ** n + 2)
-            calls.append(tree(c, n, numbers.below(2 ** n)))
-    return calls
+        getters = [getting(call) for call in calls[1:]]
+        got = answered_by_words(opening(calls[0][1], given), *getters)
+        self.assertEqual(got[1:], [got_back(call) for call in calls[1:]])
 
 
 class WhereItReads(Checks):

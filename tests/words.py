@@ -124,6 +124,44 @@ def opening(k, given):
     return [5, k, len(given)] + given
 
 
+def get(c):
+    return [6, c]
+
+
+def get_even(n):
+    return [7, n]
+
+
+def get_tree(c, n):
+    return [8, c, n]
+
+
+def chance(c):
+    return [9, c]
+
+
+def left():
+    return [10]
+
+
+def getting(call):
+    """The call that reads back what this call of bit, even or tree wrote."""
+    if call[0] == 1:
+        return get(call[1])
+    if call[0] == 2:
+        return get_even(call[2])
+    return get_tree(call[1], call[2])
+
+
+def got_back(call):
+    """What reading back answers for this call of bit, even or tree."""
+    if call[0] == 1:
+        return [call[2]]
+    if call[0] == 2:
+        return [0, call[1] % 2 ** call[2]]
+    return [call[3]]
+
+
 def answered(*calls):
     """The calls' answers, one list each."""
     flat = answers([number for call in calls for number in call])
@@ -150,3 +188,79 @@ def written_by_words(calls):
         else:
             {1: words.bit, 2: words.even, 3: words.tree}[call[0]](*call[1:])
     return words.finish()
+
+
+class Words:
+    """The object of the calls, each answered as the words ask for it."""
+
+    def __init__(self):
+        self.coder = Written()
+
+    def answer(self, call):
+        names = ("begin", "bit", "even", "tree", "finish", "open", "get", "get_even", "get_tree", "chance", "left")
+        name = names[call[0]]
+        if name in ("bit", "even", "tree", "finish") and isinstance(self.coder, Read):
+            return [-2]
+        if name in ("get", "get_even", "get_tree", "left") and isinstance(self.coder, Written):
+            return [-2]
+        return getattr(self, name)(*call[1:])
+
+    def has_tree(self, c, n):
+        return n in range(1, 13) and c >= 0 and c + 2 ** n - 1 <= len(self.coder.chances)
+
+    def has_chance(self, c):
+        return c in range(len(self.coder.chances))
+
+    def begin(self, k):
+        if k not in range(1, 4097):
+            return [-2]
+        self.coder = Written(k)
+        return [0]
+
+    def open(self, k, count, *given):
+        if k not in range(1, 4097):
+            return [-2]
+        self.coder = Read(k, list(given))
+        return [0]
+
+    def bit(self, c, bit):
+        if not self.has_chance(c) or bit not in (0, 1):
+            return [-2]
+        self.coder.bit(c, bit)
+        return [0]
+
+    def even(self, x, n):
+        if n not in range(33):
+            return [-2]
+        self.coder.even(x, n)
+        return [0]
+
+    def tree(self, c, n, x):
+        if not self.has_tree(c, n) or x not in range(2 ** n):
+            return [-2]
+        self.coder.tree(c, n, x)
+        return [0]
+
+    def finish(self, most):
+        given = self.coder.finish()
+        return whole(given) if most >= len(given) else [-1]
+
+    def get(self, c):
+        return [self.coder.bit(c)] if self.has_chance(c) else [-2]
+
+    def get_even(self, n):
+        return [0, self.coder.even(n)] if n in range(33) else [-2]
+
+    def get_tree(self, c, n):
+        return [self.coder.tree(c, n)] if self.has_tree(c, n) else [-2]
+
+    def chance(self, c):
+        return [self.coder.chances[c]] if self.has_chance(c) else [-2]
+
+    def left(self):
+        return [len(self.coder.rest)]
+
+
+def answered_by_words(*calls):
+    words = Words()
+    return [words.answer(call) for call in calls]
